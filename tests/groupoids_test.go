@@ -303,14 +303,8 @@ func checkGermSame(t *testing.T, list, some [][]int) {
 // TestGermSameWithOtherCharts gives charts that are not among those of the semigroup, and what is no chart.
 func TestGermSameWithOtherCharts(t *testing.T) {
 	for _, list := range append(moreSemigroups(), brandt, turns, sets, topless, twoSwaps, chartsOf(2)) {
-		n := len(list[0])
-		keys := keysOf(list)
-		others := slices.DeleteFunc(someOf(chartsOf(n)), func(f []int) bool { return keys[keyOf(f)] })
-		others = append(others, noCharts()...)
-		longer := append(slices.Clone(list[0]), -1)
-		others = append(others, longer, list[0][:n-1], append(slices.Clone(list[0]), n))
-		for _, g := range others {
-			for p := range n {
+		for _, g := range othersOf(list) {
+			for p := range list[0] {
 				name := fmt.Sprintf("GermSame in %v with %v at %d", list, g, p)
 				checkHolds(t, name, impl.GermSame(list, g, g, p), false)
 				for _, f := range someOf(list) {

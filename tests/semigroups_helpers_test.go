@@ -270,6 +270,16 @@ func someOf(list [][]int) [][]int {
 	return append(some, list[len(list)-1])
 }
 
+// othersOf returns lists that are no charts of a semigroup: charts of as many points, what is no chart, and charts of it with one point more or less.
+func othersOf(list [][]int) [][]int {
+	n := len(list[0])
+	keys := keysOf(list)
+	others := slices.DeleteFunc(someOf(chartsOf(n)), func(f []int) bool { return keys[keyOf(f)] })
+	others = append(others, noCharts()...)
+	longer := append(slices.Clone(list[0]), -1)
+	return append(others, longer, list[0][:n-1], append(slices.Clone(list[0]), n))
+}
+
 // noSemigroups are lists of lists that are no semigroups.
 func noSemigroups() [][][]int {
 	none := [][][]int{

@@ -331,12 +331,7 @@ func TestSemigroupsOfListsThatAreNone(t *testing.T) {
 // TestSemigroupsWithOtherCharts gives charts that are not among those of the semigroup, and what is no chart.
 func TestSemigroupsWithOtherCharts(t *testing.T) {
 	eachSmallSemigroup(t, func(t *testing.T, list [][]int) {
-		n := len(list[0])
-		keys := keysOf(list)
-		others := slices.DeleteFunc(someOf(chartsOf(n)), func(f []int) bool { return keys[keyOf(f)] })
-		others = append(others, noCharts()...)
-		longer := append(slices.Clone(list[0]), -1)
-		for _, f := range append(others, longer, list[0][:n-1], append(slices.Clone(list[0]), n)) {
+		for _, f := range othersOf(list) {
 			ideal, ok := impl.SemigroupIdeal(list, f)
 			checkFailsLists(t, fmt.Sprintf("SemigroupIdeal with %v", f), ideal, ok)
 			above, ok := impl.SemigroupAbove(list, f)
